@@ -1,0 +1,1 @@
+"""Peghall: coats on pegs round a hall."""
