@@ -42,6 +42,25 @@ class OwnPeg(unittest.TestCase):
             self.assertIn(peg, range(7))
 
 
+class Sound(unittest.TestCase):
+    """Point 4 as the tests ask it: a measure that takes every rack would hide faults."""
+
+    def test_sound_racks(self):
+        for rack in ([None] * 3, [0, 3, None], [9, None, None, None, 4], SINGLE_FREE):
+            self.assertTrue(is_sound(rack))
+
+    def test_a_number_twice(self):
+        self.assertFalse(is_sound([None, 1, 1, None, None]))
+
+    def test_no_free_peg(self):
+        self.assertFalse(is_sound([0, 1, 2]))
+
+    def test_a_free_peg_on_the_way(self):
+        self.assertFalse(is_sound([None, None, None, 2, None]))
+        self.assertFalse(is_sound([4, None, None, None, None]))
+        self.assertFalse(is_sound([None, None, 4, None, 9]))
+
+
 class Looking(unittest.TestCase):
     def test_the_rack_here_is_sound(self):
         self.assertTrue(is_sound(SINGLE_FREE))
